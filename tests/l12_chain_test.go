@@ -130,11 +130,14 @@ func plainLearn(tree []impl.Block, p impl.Peer, k int) impl.Peer {
 		return p
 	}
 	just := tree[k].Just
+	if just.Block < 0 || just.Block >= len(tree) {
+		return p
+	}
 	if just.View > p.High.View {
 		p.High = just
 	}
-	if b := just.Block; b >= 0 && b < len(tree) && tree[b].Just.View > p.Lock.View {
-		p.Lock = tree[b].Just
+	if under := tree[just.Block].Just; under.View > p.Lock.View {
+		p.Lock = under
 	}
 	c, two, d, three := plainRows(tree, k)
 	if three {
@@ -316,20 +319,19 @@ func TestRowsFollowJusts(t *testing.T) {
 	holdThree(t, tree, 3, 0, true)
 }
 
-// A Just of a block that is not there: what it tells is heard, as far as it goes.
+// A Just of a block that is not there: of k's own nothing is learnt, of b's and c's what it tells is heard as far as it goes.
 func TestJustsOfBlocksThatAreNotThere(t *testing.T) {
 	for _, nowhere := range []int{math.MinInt, -2, -1, 5, 6, 7, math.MaxInt} {
 		was := plainTooEarly(lineOf(0, 1, 2, 3, 4), impl.Peer{Id: 1, View: 1, Lock: impl.Qc{View: 1, Block: 1}}, 3)
 		tree := lineOf(0, 1, 2, 3, 4)
 		tree[4].Just.Block = nowhere
 		holdThree(t, tree, 4, 0, false)
-		want := was
-		want.High = tree[4].Just
-		holdLearn(t, tree, was, 4, want)
+		holdLearn(t, tree, was, 4, was)
 
 		tree = lineOf(0, 1, 2, 3, 4)
 		tree[3].Just.Block = nowhere
 		holdThree(t, tree, 4, 0, false)
+		want := was
 		want.High, want.Lock = tree[4].Just, tree[3].Just
 		holdLearn(t, tree, was, 4, want)
 
@@ -348,6 +350,31 @@ func TestJustsOfBlocksThatAreNotThere(t *testing.T) {
 		holdThree(t, tree, 4, 1, true)
 		holdThree(t, tree, 3, 0, false)
 	}
+}
+
+// A replica stays as it is at a block whose Just is of no block, whatever that Just's View is, wherever the block stands, and whatever the replica has.
+func TestChainLearnOfNoSuchBlock(t *testing.T) {
+	line := lineOf(0, 1, 2, 3, 4)
+	low := impl.Peer{Id: 3, View: 2, High: impl.Qc{View: math.MinInt}, Lock: impl.Qc{View: math.MinInt}}
+	for _, p := range []impl.Peer{impl.PeerNew(0), low, atRow(line, 1, 3), inView(2, 6), {}} {
+		for k := range line {
+			for _, nowhere := range []int{len(line), len(line) + 1, 9, -1, -2, math.MaxInt, math.MinInt} {
+				for _, view := range []int{math.MinInt, -1, 0, 1, 3, impl.MaxView, math.MaxInt} {
+					tree := lineOf(0, 1, 2, 3, 4)
+					tree[k].Just = impl.Qc{Phase: impl.PhChain, View: view, Block: nowhere, Signers: 7}
+					holdLearn(t, tree, p, k, p)
+					holdThree(t, tree, k, 0, false)
+				}
+			}
+		}
+	}
+	// At the edge: the tree's last block is there, also when it is k itself; one behind it is not.
+	tree := []impl.Block{first(), {View: 1, Just: impl.Qc{Phase: impl.PhChain, View: 3, Block: 1, Signers: 7}}}
+	holdLearn(t, tree, impl.PeerNew(0), 1, impl.Peer{View: 1, High: tree[1].Just, Lock: tree[1].Just})
+	tree[1].Just.Block = 2
+	holdLearn(t, tree, impl.PeerNew(0), 1, impl.PeerNew(0))
+	tree[1].Just.Block = 0
+	holdLearn(t, tree, impl.PeerNew(0), 1, impl.Peer{View: 1, High: tree[1].Just})
 }
 
 // High and Lock are held by Views alone: below, at and above.
